@@ -1,0 +1,1 @@
+"""The record: a cartoon of glass panes that grows by steps."""

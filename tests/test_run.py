@@ -1,0 +1,40 @@
+"""The document's own run, call by call, as far as the calls go that are there."""
+
+import unittest
+
+from tests.tools import Table, bare, drop, erase, lead, move, told
+
+RUN = (
+    (bare(30, 20, 15, 2, 5), [0]),
+    (lead([(0, 0), (10, 10), (30, 0)], 15, 15, 7), [0]),
+    (lead([(0, 20), (10, 10)], 15, 10), [-5, 12, 112]),
+    (lead([(0, 20), (10, 10)], 2, 10, 6), [0]),
+    (move(2, 12, 10), [0]),
+    (erase(0, 1), [0]),
+    (drop(0), [-5, 6, 20]),
+)
+
+
+class Run(unittest.TestCase):
+    def test_answers(self):
+        self.assertEqual(told(*[call for call, answer in RUN]), [answer for call, answer in RUN])
+
+    def test_what_is_held_on_the_way(self):
+        table = Table()
+        seen = []
+        for call, answer in RUN:
+            self.assertEqual(table.put(call), answer)
+            seen.append((len(table.points()), len(table.lines()), table.marks()))
+        self.assertEqual(seen, [
+            (4, 4, [(15, 2)]),
+            (5, 6, [(15, 2), (15, 15)]),
+            (5, 6, [(15, 2), (15, 15)]),
+            (5, 7, [(15, 2), (2, 10), (15, 15)]),
+            (5, 7, [(15, 2), (2, 10), (15, 15)]),
+            (5, 6, [(15, 2), (15, 15)]),
+            (5, 6, [(15, 2), (15, 15)]),
+        ])
+
+
+if __name__ == "__main__":
+    unittest.main()
