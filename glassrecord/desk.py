@@ -1,16 +1,20 @@
 """The desk: takes calls in one list of whole numbers, and answers each one."""
 
 from glassrecord.drawing import frame_alone
-from glassrecord.layout import drawing_told
-from glassrecord.layout import header_fault
+from glassrecord.layout import cartoon_bytes
 from glassrecord.record import DONE
 from glassrecord.record import Record
 from glassrecord.record import refusal
+from glassrecord.rules import cartoon_told
 from glassrecord.rules import judge
+from glassrecord.saved import record_told
+from glassrecord.saved import saved_bytes
 from glassrecord.steps import DROP
 from glassrecord.steps import ERASE
 from glassrecord.steps import LEAD
+from glassrecord.steps import LEAST_LEAD
 from glassrecord.steps import MARK
+from glassrecord.steps import MOST_LEAD
 from glassrecord.steps import MOVE
 
 CALL_OPEN = 1
@@ -19,10 +23,20 @@ CALL_LEAD = 3
 CALL_ERASE = 4
 CALL_MOVE = 5
 CALL_MARK = 6
+CALL_DROP = 7
+CALL_UNDO = 8
+CALL_REDO = 9
+CALL_COUNT = 10
+CALL_PLAN = 11
+CALL_READ = 13
 
 # By the call: how many whole numbers it has before its row.
-NUMBERS = {1: 0, 2: 6, 3: 4, 4: 2, 5: 3, 6: 5, 7: 1}
-WITH_ROW = (1, 3)
+NUMBERS = {1: 0, 2: 6, 3: 4, 4: 2, 5: 3, 6: 5, 7: 1, 8: 0, 9: 0, 10: 1, 11: 0, 12: 0, 13: 0}
+WITH_ROW = (1, 3, 13)
+
+COUNT_DONE = 0
+COUNT_UNDONE = 1
+COUNT_PANES = 2
 
 NO_RECORD = -9
 OUT_OF_RANGE = -1
@@ -30,9 +44,8 @@ TOO_LONG = -6
 
 MOST_LENGTH = 4294967295
 MOST_KIND = 65535
-LEAST_LEAD = 2
-MOST_LEAD = 64
-MOST_BYTES = 131072
+MOST_CARTOON_BYTES = 131072
+MOST_SAVED_BYTES = 67108864
 
 
 class Desk:
@@ -41,33 +54,46 @@ class Desk:
 
     def answer(self, call, numbers, row):
         if call == CALL_OPEN:
-            return self.begin_from_bytes(row)
+            return self.begin_from_cartoon(row)
         if call == CALL_BARE:
             return self.begin_bare(numbers)
+        if call == CALL_READ:
+            return self.begin_from_saved(row)
         if self.record is None:
             return [NO_RECORD]
         if not in_range(call, numbers, row):
             return [OUT_OF_RANGE]
-        return self.record.take(step_told(call, numbers, row))
+        if call <= CALL_DROP:
+            return self.record.take(step_told(call, numbers, row))
+        return [DONE] + told_of(self.record, call, numbers)
 
-    def begin_from_bytes(self, data):
-        if len(data) > MOST_BYTES:
+    def begin_from_cartoon(self, data):
+        if len(data) > MOST_CARTOON_BYTES:
             return [TOO_LONG]
-        fault = header_fault(data)
-        if fault is not None:
-            return refusal(fault)
-        return self.begin(drawing_told(data))
+        told = cartoon_told(data)
+        if told[0] is not None:
+            return refusal(told[0])
+        return self.begin(Record(told[1]))
 
     def begin_bare(self, numbers):
         if not (lengths_fit(numbers[0:2]) and mark_fits(numbers[2:6])):
             return [OUT_OF_RANGE]
-        return self.begin(frame_alone(numbers[0], numbers[1], mark_told(numbers[2:6])))
-
-    def begin(self, drawing):
+        drawing = frame_alone(numbers[0], numbers[1], mark_told(numbers[2:6]))
         fault = judge(drawing, None)
         if fault is not None:
             return refusal(fault)
-        self.record = Record(drawing)
+        return self.begin(Record(drawing))
+
+    def begin_from_saved(self, data):
+        if len(data) > MOST_SAVED_BYTES:
+            return [TOO_LONG]
+        told = record_told(data)
+        if told[0] is not None:
+            return refusal(told[0])
+        return self.begin(told[1])
+
+    def begin(self, record):
+        self.record = record
         return [DONE]
 
 
@@ -86,6 +112,8 @@ def in_range(call, numbers, row):
         return lengths_fit(numbers[1:3])
     if call == CALL_MARK:
         return mark_fits(numbers[1:5])
+    if call == CALL_COUNT:
+        return numbers[0] <= COUNT_PANES
     return True
 
 
@@ -107,6 +135,30 @@ def step_told(call, numbers, row):
     if call == CALL_MARK:
         return (MARK, numbers[0], mark_told(numbers[1:5]))
     return (DROP, numbers[0])
+
+
+def told_of(record, call, numbers):
+    if call == CALL_UNDO:
+        return [record.undo()]
+    if call == CALL_REDO:
+        return [record.redo()]
+    if call == CALL_COUNT:
+        return [counted(record, numbers[0])]
+    if call == CALL_PLAN:
+        return with_count(cartoon_bytes(record.cartoon()))
+    return with_count(saved_bytes(record))
+
+
+def counted(record, what):
+    if what == COUNT_DONE:
+        return record.done
+    if what == COUNT_UNDONE:
+        return record.undone()
+    return len(record.cartoon().marks)
+
+
+def with_count(data):
+    return [len(data)] + data
 
 
 def answers(calls):

@@ -1,4 +1,4 @@
-"""The bytes of a cartoon: what they tell, and the rules 1 to 3."""
+"""The bytes of a cartoon: what they tell, how they are written, and the rules 1 to 3."""
 
 from glassrecord.drawing import Drawing
 from glassrecord.drawing import HEADER_BYTES
@@ -22,6 +22,14 @@ def number_at(data, place, size):
     for byte in reversed(data[place:place + size]):
         value = value * 256 + byte
     return value
+
+
+def two_bytes(value):
+    return [value & 255, value >> 8]
+
+
+def four_bytes(value):
+    return [value & 255, value >> 8 & 255, value >> 16 & 255, value >> 24]
 
 
 def opening_fault(data):
@@ -86,3 +94,29 @@ def drawing_told(data):
     lines = [line_at(data, place) for place in range(lines_begin, marks_begin, LINE_BYTES)]
     marks = [mark_at(data, place) for place in range(marks_begin, len(data), MARK_BYTES)]
     return Drawing(number_at(data, 4, 4), number_at(data, 8, 4), points, lines, marks)
+
+
+def point_bytes(point):
+    return four_bytes(point[1]) + four_bytes(point[0])
+
+
+def line_bytes(line):
+    return two_bytes(line[0]) + two_bytes(line[1])
+
+
+def mark_bytes(mark):
+    return point_bytes(mark) + two_bytes(mark[2]) + two_bytes(mark[3])
+
+
+def cartoon_bytes(cartoon):
+    data = list(OPENING) + four_bytes(cartoon.width) + four_bytes(cartoon.height)
+    for row in (cartoon.points, cartoon.lines, cartoon.marks):
+        data.extend(two_bytes(len(row)))
+    data.extend([0, 0])
+    for point in cartoon.points:
+        data.extend(point_bytes(point))
+    for line in cartoon.lines:
+        data.extend(line_bytes(line))
+    for mark in cartoon.marks:
+        data.extend(mark_bytes(mark))
+    return data

@@ -1,4 +1,4 @@
-"""A record: a first cartoon, the steps done from it, the cartoon they lead to."""
+"""A record: a first cartoon, the steps done from it, and those that are undone."""
 
 from glassrecord.rules import judge
 from glassrecord.steps import drawing_after
@@ -11,25 +11,53 @@ TOO_MANY_STEPS = -3
 NOT_TAKEN = -5
 
 
+# The steps stand as they are saved: those done, then those undone in the
+# order in which redo does them. The cartoons are the first one and the one
+# behind each step: so to undo is to go back among them.
 class Record:
     def __init__(self, first):
-        self.first = first
-        self.cartoon = first
-        self.steps_done = []
+        self.cartoons = [first]
+        self.steps = []
+        self.done = 0
+
+    def cartoon(self):
+        return self.cartoons[self.done]
+
+    def undone(self):
+        return len(self.steps) - self.done
 
     # The answer's numbers; the record is changed only if they are DONE alone.
     def take(self, step):
-        drawn = drawing_after(self.cartoon, step)
+        drawn = drawing_after(self.cartoon(), step)
         if drawn is None:
             return [NO_SUCH_THING]
-        fault = judge(drawn, self.cartoon)
+        fault = judge(drawn, self.cartoon())
         if fault is not None:
             return refusal(fault)
-        if len(self.steps_done) >= MOST_STEPS:
+        if self.done >= MOST_STEPS:
             return [TOO_MANY_STEPS]
-        self.steps_done.append(step)
-        self.cartoon = drawn
+        self.forget_undone()
+        self.cartoons.append(drawn)
+        self.steps.append(step)
+        self.done += 1
         return [DONE]
+
+    def forget_undone(self):
+        while self.undone() > 0:
+            self.cartoons.pop()
+            self.steps.pop()
+
+    def undo(self):
+        if self.done == 0:
+            return 0
+        self.done -= 1
+        return 1
+
+    def redo(self):
+        if self.undone() == 0:
+            return 0
+        self.done += 1
+        return 1
 
 
 def refusal(fault):

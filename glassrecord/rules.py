@@ -1,4 +1,4 @@
-"""The rules 2 and 4 to 13: is a drawing a cartoon, and if not, why and where.
+"""The rules: is a drawing a cartoon, and if not, why and where.
 
 A fault is (rule, place), or None where nothing is broken. Each rule may take
 for granted that those before it hold.
@@ -11,6 +11,8 @@ from glassrecord.drawing import mark_place
 from glassrecord.drawing import point_place
 from glassrecord.geometry import crosses
 from glassrecord.geometry import lies_inside
+from glassrecord.layout import drawing_told
+from glassrecord.layout import header_fault
 from glassrecord.layout import size_fault
 from glassrecord.panes import panes_of
 from glassrecord.ways import first_cut
@@ -22,15 +24,37 @@ from glassrecord.ways import walk_deep
 FRAME_PLACE = 20
 
 
+# (fault, None), or (None, the cartoon).
+def cartoon_told(data):
+    fault = header_fault(data)
+    if fault is not None:
+        return (fault, None)
+    drawing = drawing_told(data)
+    fault = judge(drawing, None)
+    if fault is not None:
+        return (fault, None)
+    return (None, drawing)
+
+
 # before: the cartoon from which a step made the drawing, or None.
 def judge(drawing, before):
     fault = form_fault(drawing)
-    if fault is None:
-        fault = tangle_fault(drawing, before)
-    if fault is None:
-        fault = ways_fault(drawing)
+    if fault is None and not same_lines(drawing, before):
+        fault = net_fault(drawing, before)
     if fault is None:
         fault = marks_fault(drawing)
+    return fault
+
+
+# Where they are the same, the rules 7 to 10 were judged on the cartoon before.
+def same_lines(drawing, before):
+    return before is not None and drawing.lines == before.lines and drawing.points == before.points
+
+
+def net_fault(drawing, before):
+    fault = tangle_fault(drawing, before)
+    if fault is None:
+        fault = ways_fault(drawing)
     return fault
 
 

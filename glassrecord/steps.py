@@ -4,6 +4,7 @@ A step is (LEAD, row, mark), (ERASE, i, j), (MOVE, k, point), (MARK, i, mark)
 or (DROP, k). None is given back where there is no such thing.
 """
 
+from glassrecord.drawing import Drawing
 from glassrecord.drawing import ends_of
 from glassrecord.drawing import numbered
 from glassrecord.geometry import lies_inside
@@ -14,6 +15,9 @@ ERASE = 1
 MOVE = 2
 MARK = 3
 DROP = 4
+
+LEAST_LEAD = 2
+MOST_LEAD = 64
 
 
 def drawing_after(cartoon, step):
@@ -75,7 +79,7 @@ def with_mark(cartoon, i, mark):
     if i >= len(cartoon.marks):
         return None
     marks = cartoon.marks[:i] + [mark] + cartoon.marks[i + 1:]
-    return redrawn(cartoon, cartoon.points, ends_of(cartoon), marks)
+    return Drawing(cartoon.width, cartoon.height, cartoon.points, cartoon.lines, sorted(marks))
 
 
 def with_dropped(cartoon, k):

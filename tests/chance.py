@@ -1,7 +1,8 @@
 """Calls drawn by a seeded chance, such that many are taken and many are not."""
 
 from tests import oracle
-from tests.tools import bare, cartoon_bytes, drop, erase, lead, mark, move
+from tests.tools import (
+    bare, cartoon_bytes, count, drop, erase, in_bytes, lead, mark, move, opened, plan, read, redo, save, undo)
 
 
 def spot_on(chance, row):
@@ -142,3 +143,91 @@ def scribbled(chance):
     told = oracle.Told(cartoon_bytes(width, height, [], [], []))
     return oracle.written(told, points, [line for line in lines if line[0] != line[1]],
                           [(x, y, 0, 0) for y, x in marks])
+
+
+def steps_at(data):
+    """The places of the steps in a saved record that can be read, and the place behind them."""
+    places = [16 + oracle.number_at(data, 4, 4)]
+    while places[-1] < len(data):
+        places.append(oracle.step_told(data, places[-1])[1])
+    return places
+
+
+def with_steps(data, steps, done, undone):
+    """A saved record's bytes with other steps, and as many told as are asked."""
+    first = data[16:steps_at(data)[0]]
+    return data[:8] + in_bytes((done, 4), (undone, 4)) + first + [byte for step in steps for byte in step]
+
+
+def spoiled_first(chance, data):
+    """With something changed in the first cartoon, told as long as it then is, or not."""
+    places = steps_at(data)
+    first = spoiled(chance, data[16:places[0]])
+    size = len(first) if chance.random() < 0.8 else chance.choice((0, len(first) - 1, len(first) + 1, len(data)))
+    return data[:4] + in_bytes((size, 4)) + data[8:16] + first + data[places[0]:]
+
+
+def spoiled_record(chance, data):
+    """A saved record's bytes with something changed: a byte, a step, their order, their number, the first cartoon."""
+    kind = chance.randrange(8)
+    places = steps_at(data)
+    if kind == 0:
+        at = chance.randrange(len(data))
+        return data[:at] + [chance.choice((0, 1, data[at] ^ 1, data[at] ^ 2, 255))] + data[at + 1:]
+    if kind == 1:
+        return data[:chance.randrange(len(data))] if chance.random() < 0.5 else data + [chance.randrange(6)]
+    steps = [data[begin:end] for begin, end in zip(places, places[1:])]
+    if kind == 2 or not steps:
+        return spoiled_first(chance, data)
+    done, undone = (oracle.number_at(data, at, 4) for at in (8, 12))
+    at = chance.randrange(len(steps))
+    if kind == 3:
+        steps[at] = chance.choice(([5] + steps[at][1:], [0] + steps[at][1:], steps[at][:-1], steps[at] + [0]))
+    elif kind == 4:
+        steps[at:at + 2] = steps[at:at + 2][::-1]
+    elif kind == 5:
+        steps = steps[:at] + steps[at + 1:]
+        done, undone = (done - 1, undone) if done else (done, undone - 1)
+    elif kind == 6:
+        place = chance.randrange(len(steps[at]))
+        steps[at] = steps[at][:place] + [chance.choice((0, 1, 2, 3, 4, 65, 255))] + steps[at][place + 1:]
+    else:
+        done, undone = chance.choice(((done + 1, undone), (done, undone + 1), (max(0, done - 1), undone),
+                                      (done + undone, 0), (0, done + undone), (65536, 1)))
+    return with_steps(data, steps, done, undone)
+
+
+def any_call(chance, data, saves):
+    """One of all thirteen calls; the cartoon's bytes, or None, and some saved records go in."""
+    kind = chance.random()
+    if kind < 0.10:
+        return undo()
+    if kind < 0.18:
+        return redo()
+    if kind < 0.22:
+        return count(chance.choice((0, 1, 2, 3, 4294967296)))
+    if kind < 0.25:
+        return plan()
+    if kind < 0.30:
+        return save()
+    if kind < 0.36 and saves:
+        saved = chance.choice(saves)
+        return read(saved if chance.random() < 0.4 else spoiled_record(chance, saved))
+    if kind < 0.365:
+        return opened(grown(chance, 3))
+    if data is None:
+        return chance.choice((some_bare(chance), drop(0), mark(0, 1, 1)))
+    if kind < 0.375:
+        return opened(spoiled(chance, data))
+    return some_call(chance, data)
+
+
+def some_record(chance, calls):
+    """The saved bytes of a record that calls by chance lead to, with steps done and undone."""
+    other = oracle.Oracle()
+    other.put(opened(grown(chance, 2)))
+    for n in range(calls):
+        other.put(some_call(chance, other.data))
+    for n in range(chance.randrange(4)):
+        other.put(undo())
+    return other.saved()

@@ -7,7 +7,7 @@ from its bytes alone, and each rule goes by the document's own words.
 from fractions import Fraction
 from functools import cmp_to_key
 
-from tests.tools import cartoon_bytes
+from tests.tools import Told, cartoon_bytes, number_at, record_saved
 
 
 def turn(p, q, r):
@@ -41,27 +41,6 @@ def common_points(p, q, r, s):
 
 def crosses(p, q, r, s):
     return any(point not in (p, q, r, s) for point in common_points(p, q, r, s))
-
-
-def number_at(data, at, size):
-    return sum(data[at + i] << (8 * i) for i in range(size))
-
-
-class Told:
-    def __init__(self, data):
-        self.width, self.height = number_at(data, 4, 4), number_at(data, 8, 4)
-        count, lines, marks = (number_at(data, at, 2) for at in (12, 14, 16))
-        self.points_at, self.lines_at = 20, 20 + 8 * count
-        self.marks_at = self.lines_at + 4 * lines
-        self.points = [(number_at(data, at, 4), number_at(data, at + 4, 4))
-                       for at in range(20, self.lines_at, 8)]
-        self.lines = [(number_at(data, at, 2), number_at(data, at + 2, 2))
-                      for at in range(self.lines_at, self.marks_at, 4)]
-        self.marks = [(number_at(data, at, 4), number_at(data, at + 4, 4), number_at(data, at + 8, 2),
-                       number_at(data, at + 10, 2)) for at in range(self.marks_at, self.marks_at + 12 * marks, 12)]
-
-    def ends(self):
-        return [(self.points[a], self.points[b]) for a, b in self.lines]
 
 
 def behind(point, other):
@@ -293,29 +272,72 @@ def after_drop(told, k):
     return written(told, [other for other in told.points if other != point], lines, told.marks)
 
 
+def step_told(data, at):
+    """The call that does the step at a place of a saved record, and the place behind it.
+
+    Or the rule and the place of what's broken, with None in the call's stead.
+    """
+    missing = (None, (6, len(data)))
+    rest = data[at:]
+    if not rest:
+        return missing
+    if rest[0] > 4:
+        return (None, (5, at))
+    if rest[0] == 0 and len(rest) > 1 and (rest[1] < 2 or rest[1] > 64):
+        return (None, (5, at + 1))
+    sizes = {0: [1, 1], 1: [1, 2, 2], 2: [1, 2, 4, 4], 3: [1, 2, 4, 4, 2, 2], 4: [1, 2]}[rest[0]]
+    if rest[0] == 0 and len(rest) > 1:
+        sizes = [1, 1] + [4] * (2 * rest[1]) + [4, 4, 2, 2]
+    if len(rest) < sum(sizes):
+        return missing
+    numbers = [number_at(rest, sum(sizes[:i]), size) for i, size in enumerate(sizes)]
+    if rest[0] == 0:
+        return ([3] + numbers[-4:] + [2 * rest[1]] + numbers[2:-4], at + sum(sizes))
+    return ([3 + rest[0]] + numbers[1:], at + sum(sizes))
+
+
 class Oracle:
-    """Answers calls as the desk does; the record is the bytes of its cartoon."""
+    """Answers calls as the desk does.
+
+    The cartoon is kept as its bytes, a step as the call that does it. The
+    steps done have the cartoon before them by their side; the last one that
+    was undone stands first among those.
+    """
 
     def __init__(self):
         self.data = None
+        self.begin([])
+
+    def begin(self, first):
+        self.first, self.done, self.undone = list(first), [], []
 
     def put(self, call):
         number, rest = call[0], call[1:]
-        if number == 1:
-            return self.settle(rest[1:])
-        if number == 2:
-            return self.put_bare(rest)
+        if number in (1, 2, 13):
+            return {1: self.put_open, 2: self.put_bare, 13: self.put_read}[number](rest)
         if self.data is None:
             return [-9]
         if self.too_great(number, rest):
             return [-1]
-        data = self.drawn(number, rest)
-        return [-2] if data is None else self.settle(data)
+        if number <= 7:
+            return self.put_step(call)
+        if number == 8:
+            return [0, self.undo()]
+        if number == 9:
+            return [0, self.redo()]
+        if number == 10:
+            return [0, [len(self.done), len(self.undone), len(Told(self.data).marks)][rest[0]]]
+        told = self.data if number == 11 else self.saved()
+        return [0, len(told)] + told
+
+    def put_open(self, rest):
+        return self.settle(rest[1:])
 
     def settle(self, data):
         fault = judged(data)
         if fault is not None:
             return [-5, fault[0], fault[1]]
+        self.begin(data)
         self.data = list(data)
         return [0]
 
@@ -326,10 +348,83 @@ class Oracle:
         points = [(0, 0), (width, 0), (0, height), (width, height)]
         return self.settle(cartoon_bytes(width, height, points, [(0, 1), (0, 2), (1, 3), (2, 3)], [tuple(rest[2:])]))
 
+    def put_step(self, call):
+        data = self.drawn(call[0], call[1:])
+        if data is None:
+            return [-2]
+        fault = judged(data)
+        if fault is not None:
+            return [-5, fault[0], fault[1]]
+        if len(self.done) + 1 > 65536:
+            return [-3]
+        self.done = self.done + [(list(call), self.data)]
+        self.undone = []
+        self.data = data
+        return [0]
+
+    def undo(self):
+        if not self.done:
+            return 0
+        call, self.data = self.done[-1]
+        self.done = self.done[:-1]
+        self.undone = [call] + self.undone
+        return 1
+
+    def redo(self):
+        if not self.undone:
+            return 0
+        call = self.undone[0]
+        self.undone = self.undone[1:]
+        self.done = self.done + [(call, self.data)]
+        self.data = self.drawn(call[0], call[1:])
+        return 1
+
+    def saved(self):
+        return record_saved(self.first, [call for call, before in self.done], self.undone)
+
+    def put_read(self, rest):
+        other = Oracle()
+        fault = other.read_fault(rest[1:])
+        if fault is not None:
+            return [-5, fault[0], fault[1]]
+        self.data, self.first, self.done, self.undone = other.data, other.first, other.done, other.undone
+        return [0]
+
+    def read_fault(self, data):
+        """Reads, or tells the rule and the place; for a new one alone."""
+        if len(data) < 16:
+            return (1, len(data))
+        if data[:4] != [0x47, 0x4C, 0x41, 0x48]:
+            return (1, 0)
+        size, done, undone = (number_at(data, at, 4) for at in (4, 8, 12))
+        if done + undone > 65536:
+            return (2, 8)
+        first = data[16:16 + size]
+        if len(first) != size:
+            return (3, len(data))
+        answer = self.settle(first)
+        if answer != [0]:
+            return (4, 16 + answer[2])
+        at = 16 + size
+        for n in range(done + undone):
+            call, place = step_told(data, at)
+            if call is None:
+                return place
+            if self.put_step(call) != [0]:
+                return (7, at)
+            at = place
+        if len(data) > at:
+            return (8, at)
+        for n in range(undone):
+            self.undo()
+        return None
+
     def too_great(self, number, rest):
-        lengths = {3: rest[0:2] + rest[5:], 4: [], 5: rest[1:3], 6: rest[1:3], 7: []}[number]
+        lengths = {3: rest[0:2] + rest[5:], 5: rest[1:3], 6: rest[1:3]}.get(number, [])
         kinds = {3: rest[2:4], 6: rest[3:5]}.get(number, [])
         if number == 3 and not 2 <= len(rest[5:]) // 2 <= 64:
+            return True
+        if number == 10 and rest[0] > 2:
             return True
         return max(lengths + [0]) > 4294967295 or max(kinds + [0]) > 65535
 

@@ -35,18 +35,15 @@ class Stepping(unittest.TestCase):
     def taken(self, begun, call):
         """Puts the call behind those that began; gives back the table."""
         table = Table(*begun)
-        done = len(table.desk.record.steps_done)
+        done = table.counts()[0]
         self.assertEqual(table.put(call), [0])
-        self.assertEqual(len(table.desk.record.steps_done), done + 1)
+        self.assertEqual(table.counts()[:2], [done + 1, 0])
         return table
 
     def refused(self, begun, call, *answer):
         """Puts the call behind those that began, and sees that nothing is changed."""
         table = Table(*begun)
-        record = table.desk.record
-        held, done = table.held(), list(record.steps_done)
+        before = table.state()
         self.assertEqual(table.put(call), list(answer))
-        self.assertIs(table.desk.record, record)
-        self.assertEqual(table.held(), held)
-        self.assertEqual(record.steps_done, done)
+        self.assertEqual(table.state(), before)
         self.assertEqual(table.put(call), list(answer))

@@ -2,8 +2,10 @@
 
 import unittest
 
-from glassrecord.desk import answers
-from tests.tools import bare, cartoon_bytes, drop, erase, lead, mark, move, opened
+from glassrecord.desk import Desk, answers
+from tests.records import CARTOONS, FIRST, STEPS, WHOLE
+from tests.tools import (
+    bare, cartoon_bytes, count, drop, erase, lead, mark, move, opened, plan, read, record_saved, redo, save, told, undo)
 
 FRAME = cartoon_bytes(30, 20, [(0, 0), (30, 0), (0, 20), (30, 20)], [(0, 1), (0, 2), (1, 3), (2, 3)], [(5, 5, 0, 0)])
 
@@ -37,6 +39,72 @@ class Form(unittest.TestCase):
         self.assertEqual(answers(calls), [1, 0] * 1000)
 
 
+# All thirteen calls, and what each of them answers.
+SAVED = record_saved(CARTOONS[0], STEPS[:4], STEPS[4:])
+EVERY = (
+    (plan(), [-9]),
+    (opened(CARTOONS[1]), [0]),
+    (lead([(0, 3), (10, 3)], 1, 1), [0]),
+    (erase(0, 1), [0]),
+    (read(SAVED), [0]),
+    (save(), [0, len(SAVED)] + SAVED),
+    (redo(), [0, 1]),
+    (count(2), [0, 2]),
+    (undo(), [0, 1]),
+    (undo(), [0, 1]),
+    (count(0), [0, 3]),
+    (count(1), [0, WHOLE - 3]),
+    (count(3), [-1]),
+    (plan(), [0, len(CARTOONS[3])] + CARTOONS[3]),
+    (drop(5), [0]),
+    (redo(), [0, 0]),
+    (mark(0, 20, 4), [0]),
+    (move(9, 1, 1), [-2]),
+    (read(SAVED[:20]), [-5, 3, 20]),
+    (bare(30, 20, 5, 10, 1, 2), [0]),
+    (undo(), [0, 0]),
+    (save(), [0, 96] + record_saved(CARTOONS[0])),
+)
+
+
+class Every(unittest.TestCase):
+    def test_every_call_in_one_list(self):
+        self.assertEqual({call[0] for call, answer in EVERY}, set(range(1, 14)))
+        calls = [number for call, answer in EVERY for number in call]
+        expected = [number for call, answer in EVERY for number in [len(answer)] + answer]
+        before = list(calls)
+        self.assertEqual(answers(calls), expected)
+        self.assertEqual(calls, before)
+        self.assertEqual(answers(calls), expected)
+
+    def test_any_call_first(self):
+        self.assertEqual([told(call)[0] for call in (lead([(0, 0)], 1, 1), erase(0, 0), move(0, 0, 0), mark(0, 0, 0),
+                                                     drop(0), undo(), redo(), count(9), plan(), save())], [[-9]] * 10)
+        self.assertEqual([told(call)[0] for call in (opened(CARTOONS[3]), FIRST, read(SAVED))], [[0]] * 3)
+
+    def test_whole_numbers_alone(self):
+        given = answers(FIRST + STEPS[0] + undo() + redo() + redo() + count(0) + count(1) + count(2) + plan() + save())
+        self.assertEqual({type(number) for number in given}, {int})
+
+    def test_many_calls_of_all_kinds(self):
+        calls = [FIRST]
+        while len(calls) + len(EVERY) < 100:
+            calls += [call for call, answer in EVERY[1:]]
+        expected = [[0]] + [answer for call, answer in EVERY[1:]] * ((len(calls) - 1) // (len(EVERY) - 1))
+        self.assertEqual(told(*calls), expected)
+
+    def test_a_thousand_calls_of_one_number(self):
+        self.assertEqual(told(FIRST, *[undo()] * 999), [[0]] + [[0, 0]] * 999)
+        steps = [mark(0, 1 + n % 29, 1, n) for n in range(300)]
+        rows = told(FIRST, *steps, *[undo()] * 350, *[redo()] * 349)
+        self.assertEqual(rows[301:], [[0, 1]] * 300 + [[0, 0]] * 50 + [[0, 1]] * 300 + [[0, 0]] * 49)
+
+    def test_many_numbers_are_answered(self):
+        data = CARTOONS[-1]
+        given = answers(opened(data) + plan() * 500 + save() * 499)
+        self.assertEqual(len(given), 2 + 500 * (3 + len(data)) + 499 * (3 + 16 + len(data)))
+
+
 class Kept(unittest.TestCase):
     def test_what_is_handed_in_stays(self):
         calls = opened(FRAME) + lead([(0, 9), (12, 9), (30, 9)], 9, 12) + move(3, 14, 9) + erase(0, 1) + drop(9)
@@ -49,6 +117,24 @@ class Kept(unittest.TestCase):
         first = answers(calls)
         first.append(99)
         self.assertEqual(answers(calls), [1, 0])
+
+    def test_the_bytes_told_are_new_each_time(self):
+        desk = Desk()
+        desk.answer(2, [30, 20, 5, 10, 1, 2], [])
+        for call in (11, 12):
+            told_first = desk.answer(call, [], [])
+            kept = list(told_first)
+            told_first[2:] = [0] * 9
+            self.assertEqual(desk.answer(call, [], []), kept)
+
+    def test_rows_handed_in_stay(self):
+        for call, row in ((1, list(CARTOONS[3])), (13, list(SAVED)), (13, SAVED[:40]), (13, SAVED + [1])):
+            before = list(row)
+            desk = Desk()
+            desk.answer(call, [], row)
+            for number in (8, 9, 11, 12):
+                desk.answer(number, [], [])
+            self.assertEqual(row, before)
 
     def test_nothing_is_kept_from_one_time_to_the_next(self):
         self.assertEqual(answers(bare(30, 20, 5, 5)), [1, 0])

@@ -11,9 +11,9 @@ ABOVE_KIND = 65536
 class Bare(unittest.TestCase):
     def refused(self, call, answer):
         table = Table(bare(30, 20, 15, 2, 5, 6), lead([(0, 5), (30, 5)], 9, 9))
-        held = table.held()
+        before = table.state()
         self.assertEqual(table.put(call), answer)
-        self.assertEqual(table.held(), held)
+        self.assertEqual(table.state(), before)
         self.assertEqual(last_told(call), answer)
 
     def test_taken(self):
@@ -24,12 +24,12 @@ class Bare(unittest.TestCase):
         lines = [(0, 1), (0, 2), (1, 3), (2, 3)]
         table = Table(bare(30, 20, 15, 2, 5, 6))
         self.assertEqual(table.held(), cartoon_bytes(30, 20, points, lines, [(15, 2, 5, 6)]))
-        self.assertEqual(table.desk.record.steps_done, [])
+        self.assertEqual(table.counts(), [0, 0, 1])
 
     def test_the_record_is_another_one(self):
         table = Table(bare(30, 20, 15, 2), lead([(0, 5), (30, 5)], 9, 9), bare(16, 17, 1, 1))
         self.assertEqual(table.points(), [(0, 0), (16, 0), (0, 17), (16, 17)])
-        self.assertEqual(table.desk.record.steps_done, [])
+        self.assertEqual(table.counts(), [0, 0, 1])
 
     def test_widths_and_heights_that_fit(self):
         for side in (16, 1048575):

@@ -21,7 +21,7 @@ class Taken(Stepping):
         table = self.taken(BARE, lead([(0, 5), (30, 5)], 15, 2, 7, 8))
         self.assertEqual(table.points(), [(0, 0), (30, 0), (0, 5), (30, 5), (0, 20), (30, 20)])
         self.assertEqual(table.lines(), [(0, 1), (0, 2), (1, 3), (2, 3), (2, 4), (3, 5), (4, 5)])
-        self.assertEqual(table.desk.record.cartoon.marks, [(2, 15, 7, 8), (15, 15, 0, 0)])
+        self.assertEqual(table.full_marks(), [(15, 2, 7, 8), (15, 15, 0, 0)])
 
     def test_either_way_round_is_the_same(self):
         row = [(0, 5), (7, 9), (30, 5)]
@@ -84,7 +84,7 @@ class Taken(Stepping):
 
     def test_the_greatest_numbers_that_fit(self):
         table = self.taken(BARE, lead([(0, 5), (30, 5)], 15, 2, 65535, 65535))
-        self.assertEqual(table.desk.record.cartoon.marks[0], (2, 15, 65535, 65535))
+        self.assertEqual(table.full_marks()[0], (15, 2, 65535, 65535))
 
 
 class Refused(Stepping):

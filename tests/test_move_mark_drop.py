@@ -131,14 +131,14 @@ class MoveRefused(Stepping):
 class MarkTaken(Stepping):
     def test_another_glass(self):
         table = self.taken(SPLIT, mark(1, 20, 15, 65535, 65535))
-        self.assertEqual(table.desk.record.cartoon.marks, [(10, 5, 0, 0), (15, 20, 65535, 65535)])
+        self.assertEqual(table.full_marks(), [(5, 10, 0, 0), (20, 15, 65535, 65535)])
 
     def test_another_spot(self):
         self.assertEqual(self.taken(SPLIT, mark(0, 9, 19, 3)).marks(), [(20, 15), (9, 19)])
 
     def test_that_changes_the_numbers(self):
         table = self.taken(SPLIT, mark(1, 11, 1, 8, 9))
-        self.assertEqual(table.desk.record.cartoon.marks, [(1, 11, 8, 9), (10, 5, 0, 0)])
+        self.assertEqual(table.full_marks(), [(11, 1, 8, 9), (5, 10, 0, 0)])
         self.assertEqual(table.put(mark(0, 12, 1)), [0])
         self.assertEqual(table.marks(), [(12, 1), (5, 10)])
 

@@ -3,7 +3,7 @@
 import unittest
 
 from glassrecord.desk import Desk
-from tests.tools import Table, bytes_held, cartoon_bytes, erase, last_told, low_first, opened, told
+from tests.tools import Table, cartoon_bytes, erase, grid, last_told, low_first, opened, record_saved, told
 
 FRAME_POINTS = [(0, 0), (30, 0), (0, 20), (30, 20)]
 FRAME_LINES = [(0, 1), (0, 2), (1, 3), (2, 3)]
@@ -24,16 +24,6 @@ def frame(width=30, height=20):
 
 def sample(points=POINTS, lines=LINES, marks=MARKS):
     return cartoon_bytes(30, 20, points, lines, marks)
-
-
-def grid(columns, rows):
-    """Squares with sides of 10, a mark in the middle of each."""
-    points = [(10 * x, 10 * y) for y in range(rows + 1) for x in range(columns + 1)]
-    numbers = {point: number for number, point in enumerate(points)}
-    lines = [(numbers[x, y], numbers[x + dx, y + dy]) for x, y in points for dx, dy in ((10, 0), (0, 10))
-             if (x + dx, y + dy) in numbers]
-    marks = [(10 * x + 5, 10 * y + 5, x, y) for y in range(rows) for x in range(columns)]
-    return cartoon_bytes(10 * columns, 10 * rows, points, sorted(lines), marks)
 
 
 def changed(data, at, values):
@@ -60,8 +50,7 @@ class Taken(Opened):
 
     def test_what_the_marks_are(self):
         marks = [(15, 2, 258, 65535), (15, 15, 65535, 259)]
-        cartoon = Table(opened(sample(marks=marks))).desk.record.cartoon
-        self.assertEqual(cartoon.marks, [(2, 15, 258, 65535), (15, 15, 65535, 259)])
+        self.assertEqual(Table(opened(sample(marks=marks))).full_marks(), marks)
 
     def test_a_grid_of_many_points_and_lines(self):
         self.taken(grid(14, 12))
@@ -71,17 +60,18 @@ class Taken(Opened):
 
     def test_the_record_has_no_steps(self):
         table = Table(opened(sample()), erase(0, 1), opened(sample()))
-        self.assertEqual(table.desk.record.steps_done, [])
-        self.assertEqual(bytes_held(table.desk.record.first), sample())
+        self.assertEqual(table.counts(), [0, 0, 2])
+        self.assertEqual(table.saved(), record_saved(sample()))
 
     def test_points_at_which_the_outline_goes_straight_on(self):
         points = [(0, 0), (12, 0), (30, 0), (0, 20), (30, 20)]
         self.taken(sample(points, [(0, 1), (0, 3), (1, 2), (2, 4), (3, 4)], FRAME_MARKS))
 
     def test_a_refused_one_leaves_the_record(self):
-        table = Table(opened(sample()))
+        table = Table(opened(sample()), erase(0, 1))
+        before = table.state()
         self.assertEqual(table.put(opened(sample()[:-1])), [-5, 3, 20])
-        self.assertEqual(table.held(), sample())
+        self.assertEqual(table.state(), before)
 
     def test_more_than_131072_bytes(self):
         desk = Desk()

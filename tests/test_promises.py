@@ -1,13 +1,14 @@
-"""The promises, on ordinary cartoons; and how many steps a record may have."""
+"""The promises, on ordinary records and on records by chance."""
 
 import random
 import unittest
 
-from glassrecord.record import Record
 from tests import chance as chances
 from tests import oracle
-from tests.stepping import SPLIT
-from tests.tools import Table, bare, bytes_held, drop, erase, lead, mark, move
+from tests.records import CARTOONS, FIRST, STEPS, WHOLE
+from tests.stepping import ABOVE_LENGTH, SPLIT
+from tests.tools import (
+    Table, bare, count, drop, erase, grid, lead, mark, move, opened, plan, read, record_saved, redo, save, told, undo)
 
 LEADS = (
     lead([(0, 5), (30, 5)], 15, 2),
@@ -17,13 +18,6 @@ LEADS = (
     lead([(0, 20), (30, 0)], 4, 4),
     lead([(10, 20), (12, 9), (18, 9), (20, 20)], 15, 10),
 )
-
-
-def saved_size(record):
-    """How many bytes the document's table asks for to save this record."""
-    sizes = {0: lambda step: 1 + 1 + 8 * len(step[1]) + 12, 1: lambda step: 1 + 2 + 2, 2: lambda step: 1 + 2 + 8,
-             3: lambda step: 1 + 2 + 12, 4: lambda step: 1 + 2}
-    return 16 + len(bytes_held(record.first)) + sum(sizes[step[0]](step) for step in record.steps_done)
 
 
 def area(row):
@@ -105,44 +99,159 @@ def bends(row):
     return [point for i, point in enumerate(row) if oracle.turn(row[i - 1], point, row[(i + 1) % len(row)]) != 0]
 
 
-class Steps(unittest.TestCase):
-    FULL = 65536
+def by_chance(seed, calls):
+    """Calls by chance, put on one table: behind each the table, the call, the state before it, the answer."""
+    chance = random.Random(seed)
+    table, saves = Table(), []
+    for n in range(calls):
+        call = chances.any_call(chance, table.held(), saves) if n else opened(chances.grown(chance, 4))
+        before = table.state()
+        answer = table.put(call)
+        if call[0] == 12:
+            saves.append(answer[2:])
+        yield table, call, before, answer
 
-    def full(self, count):
-        """A table whose record has this many steps, all the same."""
-        table = Table(*SPLIT)
-        record = table.desk.record
-        record.steps_done = [(3, 0, (10, 5, 0, 0))] * count
-        return table
 
-    def test_the_last_that_fits(self):
-        table = self.full(self.FULL - 1)
-        self.assertEqual(table.put(mark(0, 5, 11)), [0])
-        self.assertEqual(table.put(mark(0, 5, 12)), [-3])
-        self.assertEqual(len(table.desk.record.steps_done), self.FULL)
-        self.assertEqual(table.marks(), [(5, 11), (20, 15)])
+def behind(calls):
+    """A table behind these calls, some of which may be refused."""
+    table = Table()
+    for call in calls:
+        table.put(call)
+    return table
 
-    def test_each_step_is_refused(self):
-        calls = (lead([(0, 5), (10, 5)], 5, 2), erase(0, 1), move(1, 9, 0), mark(0, 5, 11))
+
+class One(unittest.TestCase):
+    def holds_a_cartoon(self, table):
+        data = table.held()
+        self.assertIsNone(oracle.judged(data))
+        self.assertEqual(told(opened(data), plan()), [[0], [0, len(data)] + data])
+
+    def test_ordinary_records(self):
+        table = Table(FIRST)
+        for call in STEPS + (undo(),) * 4 + (redo(),) * 2 + (mark(0, 20, 4), read(table.saved()), undo(), undo()):
+            table.put(call)
+            self.holds_a_cartoon(table)
+
+    def test_by_chance(self):
+        for seed in range(4):
+            for table, call, before, answer in by_chance(seed, 60):
+                self.holds_a_cartoon(table)
+
+
+class Two(unittest.TestCase):
+    def test_ordinary_records(self):
+        refused = (
+            opened([]), opened(CARTOONS[0][:-1]), bare(15, 20, 1, 1), bare(30, 20, 0, 1), bare(30, 20, 1, ABOVE_LENGTH),
+            lead([], 1, 1), lead([(0, 0), (0, 0)], 1, 1), lead([(0, 1), (1, ABOVE_LENGTH)], 1, 1), erase(0, 0),
+            erase(0, 99), move(99, 1, 1), move(0, 1, 1), move(0, ABOVE_LENGTH, 1), mark(99, 1, 1), mark(0, 0, 0),
+            mark(0, 1, 1, 65536), drop(99), drop(0), count(3), count(ABOVE_LENGTH), read([]), read(CARTOONS[0]),
+            read(record_saved(CARTOONS[0], STEPS)[:-1]), read(record_saved(CARTOONS[0], STEPS + (drop(0),))))
+        whole = (FIRST,) + STEPS
+        for begun in ((), (FIRST,), whole, whole + (undo(), undo()), whole + (undo(),) * WHOLE):
+            table = Table(*begun)
+            before = table.state()
+            for call in refused:
+                self.assertLess(table.put(call)[0], 0, call)
+                self.assertEqual(table.state(), before, call)
+            self.assertEqual(ends_of(table), ends_of(Table(*begun)))
+
+    def test_by_chance(self):
+        refused = set()
+        for seed in range(4, 12):
+            for table, call, before, answer in by_chance(seed, 60):
+                if answer[0] < 0:
+                    refused.add((call[0], answer[0]))
+                if answer[0] < 0 or call[0] in (10, 11, 12) or answer == [0, 0]:
+                    self.assertEqual(table.state(), before, call)
+        self.assertGreater(len(refused), 9)
+
+
+def ends_of(table):
+    """The states that undo leads to, then those that redo leads to; none where there's no record."""
+    states = []
+    for call in (undo(), redo()):
+        while table.put(call) == [0, 1]:
+            states.append(table.state())
+    return states
+
+
+class Three(unittest.TestCase):
+    def test_ordinary_records(self):
+        table = Table(FIRST)
+        for call in STEPS:
+            before = table.held()
+            self.assertEqual(table.put(call), [0])
+            after = table.held()
+            for again in range(3):
+                self.assertEqual(table.put(undo()), [0, 1])
+                self.assertEqual(table.held(), before)
+                self.assertEqual(table.put(redo()), [0, 1])
+                self.assertEqual(table.held(), after)
+        while table.put(undo()) == [0, 1]:
+            pass
+        self.assertEqual(table.held(), CARTOONS[0])
+
+    def test_by_chance(self):
+        taken = 0
+        for seed in range(12, 18):
+            first = None
+            for table, call, before, answer in by_chance(seed, 60):
+                if call[0] in range(3, 8) and answer == [0]:
+                    taken += 1
+                    self.goes_back(table, before)
+                if call[0] in (1, 2) and answer == [0]:
+                    first = table.held()
+                if call[0] == 13 and answer == [0]:
+                    first = None
+                if first is not None:
+                    self.first_is(table, first)
+        self.assertGreater(taken, 40)
+
+    def goes_back(self, table, before):
+        after = table.state()
+        self.assertEqual(table.put(undo()), [0, 1])
+        self.assertEqual(table.put(plan()), before[0])
+        self.assertEqual(table.put(redo()), [0, 1])
+        self.assertEqual(table.state(), after)
+
+    def first_is(self, table, first):
+        other = Table(read(table.saved()))
+        while other.put(undo()) == [0, 1]:
+            pass
+        self.assertEqual(other.held(), first)
+
+
+class Four(unittest.TestCase):
+    def same_record(self, begun, calls):
+        """Does what's saved and read, by a new record, another one and its own, answer calls alike."""
+        table = behind(begun)
+        readers = [Table(), Table(opened(grid(3, 3)), mark(0, 4, 4)), behind(begun)]
+        for other in readers:
+            self.assertEqual(other.put(read(table.saved())), [0])
         for call in calls:
-            table = self.full(self.FULL)
-            held = table.held()
-            self.assertEqual(table.put(call), [-3])
-            self.assertEqual(table.held(), held)
-        table = Table(*SPLIT, erase(0, 1))
-        table.desk.record.steps_done = [(4, 1)] * self.FULL
-        self.assertEqual(table.put(drop(1)), [-3])
+            answer = table.put(call)
+            for other in readers:
+                self.assertEqual(other.put(call), answer, call)
+                self.assertEqual(other.state(), table.state(), call)
 
-    def test_looked_at_last(self):
-        table = self.full(self.FULL)
-        self.assertEqual(table.put(mark(0, 5, 4294967296)), [-1])
-        self.assertEqual(table.put(mark(2, 5, 11)), [-2])
-        self.assertEqual(table.put(mark(0, 0, 11)), [-5, 11, 20 + 48 + 28])
+    def test_ordinary_records(self):
+        calls = (redo(), undo(), undo(), mark(0, 19, 4), drop(0), move(1, 11, 0), count(0), count(1), count(2),
+                 count(3), redo(), plan(), save(), erase(0, 1), lead([(0, 1), (30, 1)], 29, 19), undo(), undo(),
+                 undo(), redo(), mark(99, 1, 1), save()) + (undo(),) * 9 + (redo(),) * 9
+        for steps in range(WHOLE + 1):
+            for undone in range(steps + 1):
+                self.same_record((FIRST, *STEPS[:steps], *[undo()] * undone), calls)
 
-    def test_another_beginning_has_no_steps(self):
-        table = self.full(self.FULL)
-        self.assertEqual(table.put(bare(30, 20, 5, 5)), [0])
-        self.assertEqual(table.put(mark(0, 5, 11)), [0])
+    def test_by_chance(self):
+        for seed in range(18, 26):
+            rows = list(by_chance(seed, 60))
+            begun = [call for table, call, before, answer in rows]
+            chance, other = random.Random(seed), behind(begun)
+            calls = []
+            for n in range(30):
+                calls.append(chances.any_call(chance, other.held(), [other.saved()]))
+                other.put(calls[-1])
+            self.same_record(begun, calls)
 
 
 class Six(unittest.TestCase):
@@ -151,41 +260,31 @@ class Six(unittest.TestCase):
     def test_the_greatest_cartoon(self):
         self.assertEqual(20 + 8 * 4096 + 4 * 8192 + 12 * 2048, 90132)
 
-    def test_a_record_of_the_greatest_steps(self):
-        table = Table(bare(630, 100, 5, 5))
+    def test_a_lead_of_64_points_has_526_bytes(self):
         row = [(10 * x, 30 + 10 * (x % 2)) for x in range(64)]
+        table = Table(bare(630, 100, 5, 5))
+        empty = len(table.saved())
+        self.assertEqual(empty, 16 + 80)
         self.assertEqual(table.put(lead(row, 5, 95)), [0])
-        record = table.desk.record
-        self.assertEqual(saved_size(record), 16 + 20 + 32 + 16 + 12 + 526)
-        record.steps_done = record.steps_done * 65536
-        self.assertLessEqual(saved_size(record), self.MOST)
-        self.assertEqual(table.put(mark(0, 6, 5)), [-3])
+        self.assertEqual(len(table.saved()), empty + 526)
+        self.assertEqual(table.put(undo()), [0, 1])
+        self.assertEqual(len(table.saved()), empty + 526)
 
-    def test_the_steps_are_kept_as_they_were_told(self):
-        table = Table(*SPLIT, lead([(10, 10), (30, 10)], 20, 5, 1, 2), move(3, 10, 11), mark(1, 4, 10, 8, 9),
-                      erase(0, 2), drop(4))
-        self.assertEqual(table.desk.record.steps_done, [
-            (0, [(0, 10), (20, 10)], (15, 20, 0, 0)),
-            (0, [(10, 10), (10, 30)], (5, 20, 1, 2)),
-            (2, 3, (11, 10)),
-            (3, 1, (10, 4, 8, 9)),
-            (1, 0, 2),
-            (4, 4),
-        ])
-        self.assertEqual(bytes_held(table.desk.record.first), Table(SPLIT[0]).held())
+    def test_each_step_s_bytes(self):
+        table = Table(FIRST)
+        for call in STEPS:
+            before = len(table.saved())
+            table.put(call)
+            size = {3: 14 + 8 * (call[5] // 2 if call[0] == 3 else 0), 4: 5, 5: 11, 6: 15, 7: 3}[call[0]]
+            self.assertEqual(len(table.saved()), before + size)
+            self.assertLessEqual(size, 526)
 
-    def test_done_again_from_the_first_they_lead_to_the_same(self):
-        chance = random.Random(6)
-        table = Table(bare(60, 60, 30, 31))
-        for k in range(150):
-            call = chances.some_call(chance, table.held())
-            if call[0] != 2:
-                table.put(call)
-        record = table.desk.record
-        again = Record(record.first)
-        for step in record.steps_done:
-            self.assertEqual(again.take(step), [0])
-        self.assertEqual(bytes_held(again.cartoon), table.held())
+    def test_by_chance(self):
+        for seed in range(24, 28):
+            for table, call, before, answer in by_chance(seed, 60):
+                steps = sum(table.counts()[:2])
+                self.assertLessEqual(len(table.saved()), 16 + 90132 + 526 * steps)
+                self.assertLessEqual(len(table.saved()), self.MOST)
 
 
 if __name__ == "__main__":

@@ -1,8 +1,8 @@
-"""The document's own run, call by call, as far as the calls go that are there."""
+"""The document's own run, call by call."""
 
 import unittest
 
-from tests.tools import Table, bare, drop, erase, lead, move, told
+from tests.tools import Table, bare, count, drop, erase, lead, move, redo, told, undo
 
 RUN = (
     (bare(30, 20, 15, 2, 5), [0]),
@@ -10,6 +10,8 @@ RUN = (
     (lead([(0, 20), (10, 10)], 15, 10), [-5, 12, 112]),
     (lead([(0, 20), (10, 10)], 2, 10, 6), [0]),
     (move(2, 12, 10), [0]),
+    (undo(), [0, 1]),
+    (redo(), [0, 1]),
     (erase(0, 1), [0]),
     (drop(0), [-5, 6, 20]),
 )
@@ -31,9 +33,23 @@ class Run(unittest.TestCase):
             (5, 6, [(15, 2), (15, 15)]),
             (5, 7, [(15, 2), (2, 10), (15, 15)]),
             (5, 7, [(15, 2), (2, 10), (15, 15)]),
+            (5, 7, [(15, 2), (2, 10), (15, 15)]),
+            (5, 7, [(15, 2), (2, 10), (15, 15)]),
             (5, 6, [(15, 2), (15, 15)]),
             (5, 6, [(15, 2), (15, 15)]),
         ])
+
+    def test_how_many_panes(self):
+        counted = [told(*[call for call, answer in RUN[:n]], count(2))[-1] for n in range(1, len(RUN) + 1)]
+        self.assertEqual(counted, [[0, panes] for panes in (1, 2, 2, 3, 3, 3, 3, 2, 2)])
+
+    def test_the_point_goes_back_and_forth(self):
+        table = Table()
+        seen = []
+        for call, answer in RUN[:7]:
+            table.put(call)
+            seen.append(table.points()[2])
+        self.assertEqual(seen[3:], [(10, 10), (12, 10), (10, 10), (12, 10)])
 
 
 if __name__ == "__main__":
